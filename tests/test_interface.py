@@ -1,0 +1,86 @@
+"""The interface: names, parameters, places; and points 0.1 to 0.3."""
+
+import ast
+import importlib
+import inspect
+import os
+import unittest
+
+import integraph
+
+PACKAGE = os.path.dirname(integraph.__file__)
+
+# The parts in their order: each uses only parts before it.
+ORDER = ("errors", "rational", "linear", "polynomial")
+
+FUNCTIONS = {
+    "rational": (
+        "is_rational(value)", "rational(n, d)", "radd(a, b)", "rsub(a, b)", "rmul(a, b)",
+        "rneg(a)", "rinv(a)", "rdiv(a, b)", "rpow(a, k)", "rcompare(a, b)", "rsign(a)",
+        "rfloor(a)", "rwhole(a)", "format_integer(n)", "parse_digits(text)",
+        "format_rational(a)", "parse_rational(text)"),
+    "linear": (
+        "dot(a, b)", "times(rows, x)", "combination(rows, width, y)", "echelon(rows, width)",
+        "kernel(rows, width)", "solve(rows, width, right)", "shows_none(rows, width, right, y)",
+        "basis(vectors, length)", "contains(space, length, v)", "span_both(one, two, length)",
+        "meet(one, two, length)", "primitive(v)"),
+    "polynomial": (
+        "trim(field, coefficients)", "degree(p)", "last(p)", "constant(field, e)",
+        "monomial(field, e, k)", "padd(field, p, q)", "psub(field, p, q)", "pneg(field, p)",
+        "pmul(field, p, q)", "pscale(field, p, e)", "ppow(field, p, k)", "pdivide(field, p, q)",
+        "pquotient(field, p, q)", "pmonic(field, p)", "pformal(field, p)", "pvalue(field, p, e)",
+        "pcompose(field, p, q)", "is_polynomial(field, value)"),
+}
+
+CLASSES = {"errors": ("Fault", "ZeroDivisor", "Malformed", "Refused", "TooLarge", "NoText")}
+
+
+def tree(part):
+    with open(os.path.join(PACKAGE, part + ".py"), encoding="ascii") as file:
+        return ast.parse(file.read())
+
+
+class Interface(unittest.TestCase):
+    def test_functions_have_their_names_and_parameters(self):
+        for part, lines in FUNCTIONS.items():
+            module = importlib.import_module("integraph." + part)
+            for line in lines:
+                name = line.partition("(")[0]
+                function = getattr(module, name)
+                self.assertEqual(name + str(inspect.signature(function)), line)
+
+    def test_functions_and_classes_are_defined_in_their_files(self):
+        for part in ORDER:
+            here = {node.name for node in tree(part).body
+                    if isinstance(node, (ast.FunctionDef, ast.ClassDef))}
+            for line in FUNCTIONS.get(part, ()):
+                self.assertIn(line.partition("(")[0], here)
+            for name in CLASSES.get(part, ()):
+                self.assertIn(name, here)
+
+    def test_the_package_itself_defines_nothing(self):
+        body = tree("__init__").body
+        self.assertEqual([node for node in body if not isinstance(node, ast.Expr)], [])
+
+
+class Parts(unittest.TestCase):
+    def test_parts_use_only_parts_before_them(self):
+        for at, part in enumerate(ORDER):
+            for node in ast.walk(tree(part)):
+                if isinstance(node, ast.ImportFrom) and node.module.startswith("integraph"):
+                    self.assertIn(node.module.partition(".")[2], ORDER[:at])
+
+    def test_every_part_is_in_the_order(self):
+        found = sorted(name[:-3] for name in os.listdir(PACKAGE) if name.endswith(".py"))
+        self.assertEqual(found, sorted(ORDER + ("__init__",)))
+
+    def test_nothing_at_module_level_can_change(self):
+        for part in ORDER:
+            module = importlib.import_module("integraph." + part)
+            for name, value in vars(module).items():
+                if not name.startswith("__"):
+                    self.assertNotIsInstance(value, (list, dict, set), part + "." + name)
+
+
+if __name__ == "__main__":
+    unittest.main()
