@@ -11,7 +11,8 @@ import integraph
 PACKAGE = os.path.dirname(integraph.__file__)
 
 # The parts in their order: each uses only parts before it.
-ORDER = ("errors", "rational", "linear", "polynomial")
+ORDER = ("errors", "rational", "linear", "wholes", "clearing", "polynomial", "divisor", "field",
+         "words", "expressions", "printing")
 
 FUNCTIONS = {
     "rational": (
@@ -30,9 +31,30 @@ FUNCTIONS = {
         "pmul(field, p, q)", "pscale(field, p, e)", "ppow(field, p, k)", "pdivide(field, p, q)",
         "pquotient(field, p, q)", "pmonic(field, p)", "pformal(field, p)", "pvalue(field, p, e)",
         "pcompose(field, p, q)", "is_polynomial(field, value)"),
+    "divisor": (
+        "pgcd(field, p, q)", "pbezout(field, p, q)", "psolve(field, a, b, c)",
+        "squarefree(field, p)", "squarefree_part(field, p)", "separate(field, p, q)",
+        "partial(field, a, factors)"),
+    "words": ("tokens(text)",),
+    "expressions": (
+        "is_expression(value)", "count(e)", "depth(e)", "weight(e)", "differentiate(e)",
+        "evaluate(e, q)", "substitute(e, f)"),
+    "printing": ("parse(text)", "plain(e)", "show(e)"),
 }
 
-CLASSES = {"errors": ("Fault", "ZeroDivisor", "Malformed", "Refused", "TooLarge", "NoText")}
+CLASSES = {"errors": ("Fault", "ZeroDivisor", "Malformed", "Refused", "TooLarge", "NoText"),
+           "field": ("Rationals", "RationalFunctions")}
+
+FIELD = ("level(self)", "zero(self)", "one(self)", "is_zero(self, a)", "add(self, a, b)",
+         "subtract(self, a, b)", "negative(self, a)", "multiply(self, a, b)", "inverse(self, a)",
+         "divide(self, a, b)", "power(self, a, k)", "rational(self, q)", "as_rational(self, a)",
+         "is_element(self, value)")
+
+METHODS = {
+    ("field", "Rationals"): ("__init__()",) + FIELD,
+    ("field", "RationalFunctions"): ("__init__(base)",) + FIELD + (
+        "variable(self)", "fraction(self, p, q)", "lift(self, e)", "lowered(self, a)"),
+}
 
 
 def tree(part):
@@ -58,6 +80,15 @@ class Interface(unittest.TestCase):
             for name in CLASSES.get(part, ()):
                 self.assertIn(name, here)
 
+    def test_methods_are_defined_in_their_classes(self):
+        for (part, name), lines in METHODS.items():
+            kind = getattr(importlib.import_module("integraph." + part), name)
+            self.assertEqual("__init__" + str(inspect.signature(kind)), lines[0])
+            for line in lines[1:]:
+                method = line.partition("(")[0]
+                self.assertIn(method, vars(kind))
+                self.assertEqual(method + str(inspect.signature(vars(kind)[method])), line)
+
     def test_the_package_itself_defines_nothing(self):
         body = tree("__init__").body
         self.assertEqual([node for node in body if not isinstance(node, ast.Expr)], [])
@@ -74,12 +105,26 @@ class Parts(unittest.TestCase):
         found = sorted(name[:-3] for name in os.listdir(PACKAGE) if name.endswith(".py"))
         self.assertEqual(found, sorted(ORDER + ("__init__",)))
 
-    def test_nothing_at_module_level_can_change(self):
+    def test_nothing_at_module_level_is_changed(self):
         for part in ORDER:
             module = importlib.import_module("integraph." + part)
-            for name, value in vars(module).items():
-                if not name.startswith("__"):
-                    self.assertNotIsInstance(value, (list, dict, set), part + "." + name)
+            tables = {name for name, value in vars(module).items()
+                      if isinstance(value, (list, dict, set)) and not name.startswith("__")}
+            self.assert_only_looked_up(part, tables)
+
+    def assert_only_looked_up(self, part, tables):
+        """Tables are read by an index or by `in`, and never named otherwise."""
+        whole = tree(part)
+        allowed = set()
+        for node in ast.walk(whole):
+            if isinstance(node, ast.Subscript) and isinstance(node.ctx, ast.Load):
+                allowed.add(node.value)
+            if isinstance(node, ast.Compare) and isinstance(node.ops[0], (ast.In, ast.NotIn)):
+                allowed.add(node.comparators[0])
+        for node in ast.walk(whole):
+            if isinstance(node, ast.Name) and node.id in tables and node not in allowed:
+                self.assertIn(node, [target for line in whole.body if isinstance(line, ast.Assign)
+                                     for target in line.targets], part)
 
 
 if __name__ == "__main__":

@@ -29,10 +29,6 @@ METHODS = set("""append clear copy count endswith extend find get index insert i
     strip update upper values zfill bit_length title capitalize swapcase casefold removeprefix
     removesuffix rindex isascii isdecimal isnumeric sort""".split())
 
-# The methods of a field: the functions on polynomials are passed one.
-METHODS |= set("""level zero one is_zero add subtract negative multiply inverse divide power
-    rational as_rational is_element""".split())
-
 UNUSED = set("""register mro elements open input law version_info with_traceback add_note
     attrgetter breakpoint builtins compile copyright credits delattr dir eval exec exit gc getattr
     globals hasattr help id importlib license locals methodcaller os quit setattr type vars
@@ -40,7 +36,7 @@ UNUSED = set("""register mro elements open input law version_info with_traceback
     abstractmethod bytes frozenset chr format""".split())
 
 NODES = (ast.Div, ast.MatMult, ast.Global, ast.AsyncFunctionDef, ast.AsyncFor, ast.AsyncWith,
-         ast.Await, ast.Yield, ast.YieldFrom, ast.Import, ast.AnnAssign, ast.Lambda)
+         ast.Await, ast.Yield, ast.YieldFrom, ast.Import, ast.AnnAssign)
 
 
 def files():
@@ -150,6 +146,11 @@ class Language(unittest.TestCase):
                     self.assertIsInstance(node.exc, ast.Call)
                     self.assertIsInstance(node.exc.func, ast.Name)
 
+    def test_two_lambdas_do_not_stand_on_one_line(self):
+        for _, _, tree in self.each():
+            lines = [node.lineno for node in ast.walk(tree) if isinstance(node, ast.Lambda)]
+            self.assertEqual(len(lines), len(set(lines)))
+
     def check_compare(self, node):
         for op, right in zip(node.ops, node.comparators):
             if isinstance(op, (ast.Is, ast.IsNot)):
@@ -187,6 +188,32 @@ class Language(unittest.TestCase):
             for node in ast.walk(tree):
                 if isinstance(node, ast.Call) and isinstance(node.func, ast.Attribute):
                     self.assertIn(node.func.attr, METHODS | own)
+
+    def test_no_name_is_a_method_and_an_attribute(self):
+        methods = set()
+        attributes = set()
+        for _, _, tree in self.each():
+            for node in ast.walk(tree):
+                if isinstance(node, ast.Attribute) and isinstance(node.ctx, ast.Store):
+                    attributes.add(node.attr)
+                if isinstance(node, ast.ClassDef):
+                    methods |= {part.name for part in node.body
+                                if isinstance(part, ast.FunctionDef)}
+        self.assertEqual(methods & attributes, set())
+        values = (0, "", [], (), {}, set(), b"", None)
+        for name in methods - {"__init__", "add"}:
+            self.assertFalse(any(hasattr(value, name) for value in values), name)
+
+    def test_parts_do_not_import_from_each_other(self):
+        used = {}
+        for name, _, tree in self.each():
+            used["integraph." + name[:-3]] = {
+                node.module for node in tree.body if isinstance(node, ast.ImportFrom)}
+        while used:
+            ready = [name for name, others in used.items() if not others & set(used)]
+            self.assertNotEqual(ready, [])
+            for name in ready:
+                del used[name]
 
     def test_strings_and_words(self):
         for _, text, tree in self.each():

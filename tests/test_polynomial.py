@@ -1,10 +1,14 @@
-"""Chapter 3: polynomials over a field, points 3.2 to 3.4."""
+"""Chapter 3: polynomials over a field, points 3.2 to 3.4.
+
+Each test runs over the small fields that the tests bring, and over those of integraph.field.
+"""
 
 import random
 import unittest
 from fractions import Fraction
 
 from integraph.errors import ZeroDivisor
+from integraph.field import RationalFunctions, Rationals
 from integraph.polynomial import (
     constant, degree, is_polynomial, last, monomial, padd, pcompose, pdivide, pformal, pmonic,
     pmul, pneg, ppow, pquotient, pscale, psub, pvalue, trim)
@@ -14,6 +18,10 @@ from tests.helpers import ODD_VALUES, PureCase, nested
 RATIONALS = SmallRationals()
 FUNCTIONS = SmallFunctions()
 X = FUNCTIONS.variable()
+
+LEVELS = [Rationals()]
+for _ in range(5):
+    LEVELS.append(RationalFunctions(LEVELS[-1]))
 
 
 def q(*numbers):
@@ -26,10 +34,14 @@ def items(field):
     found = [field.zero(), field.one()]
     for n, d in ((-1, 1), (2, 1), (-3, 4), (10 ** 30, 7)):
         found.append(field.rational((n, d)))
-    if field is FUNCTIONS:
+    if field.level() > 0:
         two = field.rational((2, 1))
-        found = found + [X, field.inverse(X), field.add(field.multiply(X, X), two),
-                         field.divide(field.subtract(X, two), field.add(X, two))]
+        t = field.variable()
+        found = found + [t, field.inverse(t), field.add(field.multiply(t, t), two),
+                         field.divide(field.subtract(t, two), field.add(t, two))]
+    if field.level() > 1:
+        x = field.lift(field.base.variable())
+        found = found + [x, field.inverse(field.subtract(t, x))]
     return found
 
 
@@ -69,7 +81,7 @@ def plain_product(field, p, q_):
 
 class BothFields(PureCase):
     def each(self, count=9):
-        for field in (RATIONALS, FUNCTIONS):
+        for field in [RATIONALS, FUNCTIONS] + LEVELS[:3]:
             yield field, polynomials(field, count)
 
     def assert_polynomial(self, field, value):
@@ -340,7 +352,7 @@ class Recognized(BothFields):
                 self.assert_true(self.pure(is_polynomial, field, p))
 
     def test_the_zero_polynomial(self):
-        for field in (RATIONALS, FUNCTIONS):
+        for field, _ in self.each():
             self.assert_true(is_polynomial(field, ()))
 
     def test_a_zero_at_the_end(self):
@@ -349,7 +361,7 @@ class Recognized(BothFields):
                 self.assert_false(self.pure(is_polynomial, field, p + (field.zero(),)))
 
     def test_zeros_elsewhere(self):
-        for field in (RATIONALS, FUNCTIONS):
+        for field, _ in self.each():
             p = (field.zero(), field.zero(), field.one())
             self.assert_true(is_polynomial(field, p))
 
@@ -361,7 +373,7 @@ class Recognized(BothFields):
                     self.assert_false(is_polynomial(field, tuple(list(item) for item in p)))
 
     def test_items_that_are_no_elements(self):
-        for field in (RATIONALS, FUNCTIONS):
+        for field, _ in self.each():
             for value in ODD_VALUES:
                 if not field.is_element(value):
                     self.assert_false(self.pure(is_polynomial, field, (value,)))
@@ -376,12 +388,60 @@ class Recognized(BothFields):
         self.assert_false(is_polynomial(FUNCTIONS, ((q(0, 1), q(0, 1)),)))
 
     def test_every_other_value(self):
-        for field in (RATIONALS, FUNCTIONS):
+        for field, _ in self.each():
             for value in ODD_VALUES:
-                expected = value in ((), ((1, 1), (2, 1))) and field is RATIONALS or value == ()
+                expected = value == () or value == ((1, 1), (2, 1)) and field.level() == 0
                 self.assertIs(self.pure(is_polynomial, field, value), expected)
             for outer in (tuple, list):
                 self.assert_false(is_polynomial(field, nested(60, outer)))
+
+
+class EveryLevel(PureCase):
+    """The functions over the fields of level 0 to 5, with elements of all their levels."""
+
+    def elements(self, field):
+        found = [field.rational((2, 3))]
+        if field.level() > 0:
+            inner = self.elements(field.base)
+            lifted = [field.lift(e) for e in inner]
+            found = found + lifted[-1:] + [
+                field.add(field.variable(), lifted[-1]),
+                field.divide(lifted[0], field.subtract(field.variable(), lifted[-1]))]
+        return found
+
+    def test_products_are_divided_again(self):
+        for field in LEVELS:
+            some = self.elements(field)
+            p = trim(field, some[-2:] + [field.zero(), field.one()])
+            r = trim(field, [some[-1], field.one(), some[0]])
+            product = self.pure(pmul, field, p, r)
+            self.assertTrue(is_polynomial(field, product))
+            self.assertEqual(product, plain_product(field, p, r))
+            self.assertEqual(self.pure(pdivide, field, product, r), (p, ()))
+            more = padd(field, product, (some[-1],))
+            self.assertEqual(self.pure(pdivide, field, more, r), (p, (some[-1],)))
+            self.assertEqual(self.pure(pquotient, field, product, p), r)
+            self.assertIsNone(pquotient(field, more, p))
+            self.assertEqual(psub(field, more, product), (some[-1],))
+            self.assertEqual(ppow(field, r, 2), pmul(field, r, r))
+            self.assertEqual(pscale(field, pmonic(field, product), last(product)), product)
+
+    def test_values_and_compositions(self):
+        for field in LEVELS:
+            some = self.elements(field)
+            e = some[-1]
+            p = (e, field.zero(), field.one())
+            square = field.multiply(e, e)
+            self.assertEqual(self.pure(pvalue, field, p, e), field.add(e, square))
+            self.assertEqual(self.pure(pvalue, field, (field.negative(e), field.one()), e),
+                             field.zero())
+            shifted = self.pure(pcompose, field, p, (e, field.one()))
+            self.assertEqual(shifted, (field.add(e, square), field.add(e, e), field.one()))
+            self.assertEqual(self.pure(pformal, field, shifted),
+                             (field.add(e, e), field.rational((2, 1))))
+            self.assertEqual(pneg(field, pneg(field, shifted)), shifted)
+            self.assertEqual(monomial(field, e, 3)[3], e)
+            self.assertEqual(constant(field, e), (e,))
 
 
 if __name__ == "__main__":
