@@ -28,17 +28,23 @@ def cleared(n, p):
     p is a polynomial over the field of level n.
     """
     pairs = [ratio_of(n, e) for e in p]
-    divisor = wconstant(n, 1)
-    for _, b in pairs:
-        if b != divisor:
-            _, left, _ = wcommon(n, b, divisor)
-            divisor = wmul(n, left, divisor)
+    divisor = common_multiple(n, [b for _, b in pairs])
     coefficients = []
     for a, b in pairs:
         if b != divisor:
             a = wmul(n, a, wquotient(n, divisor, b))
         coefficients.append(a)
     return tuple(coefficients), divisor
+
+
+def common_multiple(n, divisors):
+    """Returns a least common multiple of a list of polynomials in n variables, none zero."""
+    multiple = wconstant(n, 1)
+    for b in divisors:
+        if b != multiple:
+            _, left, _ = wcommon(n, b, multiple)
+            multiple = wmul(n, left, multiple)
+    return multiple
 
 
 def element_of(n, ratio):

@@ -178,3 +178,11 @@ class RationalFunctions:
         if len(num) == 0:
             return self.base.zero()
         return num[0]
+
+
+def field_of(n):
+    """Returns the field of level n."""
+    field = Rationals()
+    for _ in range(n):
+        field = RationalFunctions(field)
+    return field

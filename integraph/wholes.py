@@ -256,7 +256,7 @@ def _common_by_values(n, p, q):
     """
     base = 2 * min(_height(n, p), _height(n, q)) + 29
     while True:
-        value, _, _ = wcommon(n - 1, _value(n, p, base), _value(n, q, base))
+        value, _, _ = wcommon(n - 1, wvalue(n, p, base), wvalue(n, q, base))
         candidate = _digits(n, value, base)
         candidate = _divided(n, candidate, _content(n, candidate))
         # A candidate that divides both is the greatest common divisor: the value of what it
@@ -272,8 +272,8 @@ def _common_by_values(n, p, q):
         base = base * (isqrt(isqrt(base)) + 1) + 1
 
 
-def _value(n, p, k):
-    """Returns the value for the integer k in place of the last variable."""
+def wvalue(n, p, k):
+    """Returns the value for the integer k, not zero, in place of the last variable."""
     value = wconstant(n - 1, 0)
     for a in reversed(p):
         value = wadd(n - 1, _times_integer(n - 1, value, k), a)
@@ -324,3 +324,52 @@ def _without_common(n, p, q):
     """Returns p and q divided by the greatest common divisor of all their coefficients."""
     common = (_common_coefficient(n - 1, p + q),)
     return wquotient(n, p, common), wquotient(n, q, common)
+
+
+def wresultant(n, p, q):
+    """Returns the resultant by the last variable, in n - 1 variables; p and q are not zero.
+
+    The remainders are those of the subresultants: each division here is exact.
+    """
+    sign = 1
+    if len(p) < len(q):
+        sign = _sign_of_exchange(p, q)
+        p, q = q, p
+    lead = scale = wconstant(n - 1, 1)
+    while len(q) > 1:
+        sign = sign * _sign_of_exchange(p, q)
+        steps = len(p) - len(q)
+        rest = _scaled_rest(n, p, q)
+        if not rest:
+            return wconstant(n - 1, 0)
+        divisor = wmul(n - 1, lead, wpow(n - 1, scale, steps))
+        p, q = q, wquotient(n, rest, (divisor,))
+        lead = p[-1]
+        scale = _next_scale(n - 1, scale, lead, steps)
+    return _times_integer(n - 1, _next_scale(n - 1, scale, q[0], len(p) - 1), sign)
+
+
+def _sign_of_exchange(p, q):
+    """Returns -1 if both degrees are odd, otherwise 1."""
+    if len(p) % 2 == 0 and len(q) % 2 == 0:
+        return -1
+    return 1
+
+
+def _next_scale(n, scale, lead, steps):
+    """Returns lead to the power of steps, divided by scale to the power of steps - 1."""
+    if steps == 0:
+        return scale
+    return wquotient(n, wpow(n, lead, steps), wpow(n, scale, steps - 1))
+
+
+def _scaled_rest(n, p, q):
+    """Returns the remainder by q of p times the last coefficient of q, once for each step."""
+    size = len(q) - 1
+    rest = list(p)
+    for k in reversed(range(len(p) - size)):
+        top = rest.pop()
+        rest = [wmul(n - 1, a, q[size]) for a in rest]
+        if top:
+            _subtract_at(n - 1, rest, k, q[:size], top)
+    return _trim(rest)

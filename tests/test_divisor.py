@@ -7,23 +7,11 @@ from fractions import Fraction
 from integraph.divisor import (
     partial, pbezout, pgcd, psolve, separate, squarefree, squarefree_part)
 from integraph.errors import Malformed, ZeroDivisor
-from integraph.field import RationalFunctions, Rationals
 from integraph.polynomial import is_polynomial, padd, pdivide, pformal, pmul, ppow, psub
+from tests.algebra import LEVELS, chance_polynomial, monic, q
 from tests.helpers import PureCase
 
-LEVELS = [Rationals()]
-for _ in range(5):
-    LEVELS.append(RationalFunctions(LEVELS[-1]))
 Q, QX, QXT = LEVELS[:3]
-
-
-def q(*numbers):
-    """Returns the polynomial over the rationals with these coefficients, the last not zero."""
-    return tuple((Fraction(n).numerator, Fraction(n).denominator) for n in numbers)
-
-
-def monic(field, p):
-    return tuple(field.divide(a, p[-1]) for a in p)
 
 
 def slow_gcd(field, p, r):
@@ -31,25 +19,6 @@ def slow_gcd(field, p, r):
     while r:
         p, r = r, monic(field, pdivide(field, p, r)[1])
     return monic(field, p)
-
-
-def chance_element(chance, field):
-    """Returns an element; one of a field of level 1 and above often has a denominator."""
-    if field.level() == 0:
-        return (Fraction(chance.randint(-4, 4), chance.randint(1, 2)).as_integer_ratio())
-    size = 2 if field.level() == 1 else 1
-    top = chance_polynomial(chance, field.base, size)
-    bottom = chance_polynomial(chance, field.base, chance.randint(0, 1))
-    return field.fraction(top, bottom or (field.base.one(),))
-
-
-def chance_polynomial(chance, field, size):
-    items = [chance_element(chance, field) for _ in range(size)] + [field.one()]
-    if chance.random() < 0.5:
-        items[-1] = chance_element(chance, field)
-    while items and field.is_zero(items[-1]):
-        items.pop()
-    return tuple(items)
 
 
 def product(field, *polynomials):

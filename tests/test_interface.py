@@ -12,7 +12,8 @@ PACKAGE = os.path.dirname(integraph.__file__)
 
 # The parts in their order: each uses only parts before it.
 ORDER = ("errors", "rational", "linear", "wholes", "clearing", "polynomial", "divisor", "field",
-         "words", "expressions", "printing")
+         "words", "expressions", "printing", "roots", "resultant", "tower", "vectors", "build",
+         "answers", "hermite", "residues", "poles")
 
 FUNCTIONS = {
     "rational": (
@@ -40,10 +41,33 @@ FUNCTIONS = {
         "is_expression(value)", "count(e)", "depth(e)", "weight(e)", "differentiate(e)",
         "evaluate(e, q)", "substitute(e, f)"),
     "printing": ("parse(text)", "plain(e)", "show(e)"),
+    "resultant": (
+        "resultant(field, p, q)", "zvalue(field, p, e)", "zresultant(field, p, q)",
+        "linear_resultant(field, p, a, b)", "zdivisors(field, p, q, r)"),
+    "roots": ("rational_roots(p)", "integer_roots(p)", "integer_roots_in(field, p)"),
+    "vectors": (
+        "value(n, e, point)", "combination(n, items, target)",
+        "is_apart(n, items, target, rows)"),
+    "build": (
+        "grounds(tower, n)", "build(expressions)", "is_tower(monomials, witness)",
+        "expression(tower, e)"),
+    "answers": (
+        "is_answer(tower, n, value)", "power_sums(r, count)", "root_sum(field, r, q)",
+        "log_derivative(tower, n, r, s)", "derivative(tower, n, answer)",
+        "add_answers(tower, n, one, two)", "raise_answer(tower, answer, low, high)",
+        "plain(tower, n, e)", "rational_log(tower, n, c, e)"),
+    "hermite": (
+        "hermite(tower, n, f)", "is_reduction(tower, n, f, g, h, r)", "is_proper(n, e)",
+        "is_simple(tower, n, e)", "is_reduced(tower, n, e)"),
+    "residues": (
+        "residue_polynomial(tower, n, h)", "constant_residues(tower, n, h)",
+        "logarithms(tower, n, h)", "by_powers_of_z(field, g)"),
+    "poles": (
+        "clear(tower, n, w, g)", "coprime_parts(n, polynomials)", "order_at(n, p, e)"),
 }
 
 CLASSES = {"errors": ("Fault", "ZeroDivisor", "Malformed", "Refused", "TooLarge", "NoText"),
-           "field": ("Rationals", "RationalFunctions")}
+           "field": ("Rationals", "RationalFunctions"), "tower": ("Tower",)}
 
 FIELD = ("level(self)", "zero(self)", "one(self)", "is_zero(self, a)", "add(self, a, b)",
          "subtract(self, a, b)", "negative(self, a)", "multiply(self, a, b)", "inverse(self, a)",
@@ -54,6 +78,14 @@ METHODS = {
     ("field", "Rationals"): ("__init__()",) + FIELD,
     ("field", "RationalFunctions"): ("__init__(base)",) + FIELD + (
         "variable(self)", "fraction(self, p, q)", "lift(self, e)", "lowered(self, a)"),
+    ("tower", "Tower"): (
+        "__init__(monomials)", "height(self)", "monomials(self)", "kind(self, n)",
+        "argument(self, n)", "field(self, n)", "variable(self, n)",
+        "raise_to(self, e, low, high)", "lower_to(self, e, high, low)", "ground(self, n)",
+        "derive(self, n, e)", "derive_polynomial(self, n, p)", "is_normal(self, n, p)",
+        "is_special(self, n, p)", "special_split(self, n, p)", "parts(self, n, e)",
+        "terms(self, n, r)", "from_terms(self, n, terms)", "constant_part(self, n, e)",
+        "log_part(self, n, e, l)", "is_normal_tower(self)"),
 }
 
 
