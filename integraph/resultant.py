@@ -9,7 +9,7 @@ from integraph.errors import Malformed, ZeroDivisor
 from integraph.polynomial import (
     constant, degree, padd, pdivide, pmul, pquotient, psub, pvalue, trim)
 from integraph.roots import rational_roots
-from integraph.wholes import wmul, wpow, wquotient, wresultant, wscale
+from integraph.wholes import wconstant, wmul, wpow, wquotient, wresultant, wscale, wsubresultants
 
 
 def resultant(field, p, q):
@@ -78,22 +78,44 @@ def zdivisors(field, p, q, r):
         high, low = _by_length(_ztrim(field, one, s), _ztrim(field, two, s))
         if len(high) == 0:
             raise ZeroDivisor("both values are zero at a root")
-        divisor = high
-        if len(low) > 0:
-            divisor = low
-        inverse = psolve(field, divisor[-1], s, (field.one(),))
-        if inverse is None:
-            d = pgcd(field, divisor[-1], s)
+        d = pgcd(field, high[-1], s)
+        if len(low) > 0 and len(d) == 1:
+            d = pgcd(field, low[-1], s)
+        if len(d) > 1:
             left.append((d, high, low))
             left.append((pquotient(field, s, d), high, low))
             continue
-        divisor = tuple([_zproduct(field, c, inverse[0], s) for c in divisor])
-        if len(low) == 0:
-            found = _with_piece(field, found, s, divisor)
-        else:
-            left.append((s, divisor, _zremainder(field, high, divisor, s)))
+        for piece in _pieces_of_full_degrees(field, high, low, s):
+            found = _with_piece(field, found, piece)
     ordered = sorted([(len(piece[1]), piece) for piece in found])
     return tuple([piece for _, piece in ordered])
+
+
+def _pieces_of_full_degrees(field, p, q, s):
+    """Returns the pieces where the last coefficients of p and q are not zero at a root of s.
+
+    The divisor at a root is the first subresultant, from the lowest degree on, of which the
+    last coefficient is not zero there. They are not made modulo s: fractions would grow.
+    """
+    n = field.level()
+    rows = [_zcleared(n, p)[0]]
+    if len(q) > 0:
+        rows = wsubresultants(n + 2, rows[0], _zcleared(n, q)[0])
+    unit = wconstant(n, 1)
+    found = []
+    for row in reversed(rows):
+        top = _zrest(field, over(n, row[-1], unit), s)
+        d = pgcd(field, top, s)
+        here = pquotient(field, s, d)
+        s = d
+        if len(here) > 1:
+            inverse, _ = psolve(field, top, here, (field.one(),))
+            coefficients = [_zrest(field, over(n, c, unit), here) for c in row]
+            h = tuple([_zproduct(field, c, inverse, here) for c in coefficients])
+            found.append((here, h))
+        if len(s) == 1:
+            break
+    return found
 
 
 def _pieces_at_rational_roots(field, p, q, r):
@@ -111,7 +133,7 @@ def _pieces_at_rational_roots(field, p, q, r):
         g = pgcd(field, zvalue(field, p, c), zvalue(field, q, c))
         if len(g) == 0:
             raise ZeroDivisor("both values are zero at a root")
-        found = _with_piece(field, found, line, tuple([constant(field, e) for e in g]))
+        found = _with_piece(field, found, (line, tuple([constant(field, e) for e in g])))
         r = pquotient(field, r, line)
     return found, r
 
@@ -150,25 +172,13 @@ def _zproduct(field, c, d, s):
     return _zrest(field, pmul(field, c, d), s)
 
 
-def _zremainder(field, p, q, s):
-    """Returns the remainder modulo s of p by q, whose last coefficient is one."""
-    size = degree(q)
-    rest = list(p)
-    for k in reversed(range(len(p) - size)):
-        factor = rest.pop()
-        for i in range(size):
-            product = _zproduct(field, factor, q[i], s)
-            rest[k + i] = psub(field, rest[k + i], product)
-    return tuple(rest)
-
-
-def _with_piece(field, found, s, h):
+def _with_piece(field, found, piece):
     """Returns the list with one piece more; pieces of the same length are put together."""
-    for at, (other, g) in enumerate(found):
-        if len(g) == len(h):
-            joined = (pmul(field, other, s), _joined(field, (other, g), (s, h)))
+    for at, other in enumerate(found):
+        if len(other[1]) == len(piece[1]):
+            joined = (pmul(field, other[0], piece[0]), _joined(field, other, piece))
             return found[:at] + [joined] + found[at + 1:]
-    return found + [(s, h)]
+    return found + [piece]
 
 
 def _joined(field, one, two):

@@ -327,26 +327,42 @@ def _without_common(n, p, q):
 
 
 def wresultant(n, p, q):
-    """Returns the resultant by the last variable, in n - 1 variables; p and q are not zero.
-
-    The remainders are those of the subresultants: each division here is exact.
-    """
+    """Returns the resultant by the last variable, in n - 1 variables; p and q are not zero."""
     sign = 1
     if len(p) < len(q):
         sign = _sign_of_exchange(p, q)
         p, q = q, p
+    if len(q) == 1:
+        return wpow(n - 1, q[0], len(p) - 1)
+    rows = [p] + wsubresultants(n, p, q)
+    if len(rows[-1]) > 1:
+        return wconstant(n - 1, 0)
+    for row, following in zip(rows, rows[1:]):
+        sign = sign * _sign_of_exchange(row, following)
+    return _times_integer(n - 1, rows[-1][0], sign)
+
+
+def wsubresultants(n, p, q):
+    """Returns the list of q and the subresultants that have their full degree, but for signs.
+
+    They stand in descending order. p and q are not zero, and p has at least the degree of q.
+    Each division here is exact.
+    """
+    found = [q]
     lead = scale = wconstant(n - 1, 1)
     while len(q) > 1:
-        sign = sign * _sign_of_exchange(p, q)
         steps = len(p) - len(q)
         rest = _scaled_rest(n, p, q)
         if not rest:
-            return wconstant(n - 1, 0)
+            break
         divisor = wmul(n - 1, lead, wpow(n - 1, scale, steps))
         p, q = q, wquotient(n, rest, (divisor,))
         lead = p[-1]
         scale = _next_scale(n - 1, scale, lead, steps)
-    return _times_integer(n - 1, _next_scale(n - 1, scale, q[0], len(p) - 1), sign)
+        missing = len(p) - len(q) - 1
+        full = wscale(n, q, wpow(n - 1, q[-1], missing))
+        found.append(wquotient(n, full, (wpow(n - 1, scale, missing),)))
+    return found
 
 
 def _sign_of_exchange(p, q):

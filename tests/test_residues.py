@@ -121,6 +121,19 @@ class Polynomial(ResidueCase):
             self.assertEqual(len(found), len(h[1]))
             self.assertEqual(found[-1], t.field(n - 1).one())
 
+    def test_residues_that_are_alike_at_some_points(self):
+        # Residues x^2, x^2 + x + 1 and like ones have one value at several small integers.
+        for t, text, wanted in (
+                (LOG, "x/t2", ("-x^2", "1")), (EXP, "-(x^2+x+1)/(t2+1)", ("-x^2-x-1", "1")),
+                (EXP, "-(x^3-x+2)/(t2+1)", ("-x^3+x-2", "1")),
+                (LOG, "x/t2+1/(x*(t2-1))", ("x^2", "-x^2-1", "1")),
+                (EXP, "-((x^3-x+1)*x*(x+1)*(x-1)*(x^2-4)+3)/(t2+1)",
+                 ("-((x^3-x+1)*x*(x+1)*(x-1)*(x^2-4)+3)", "1"))):
+            h = el(2, text)
+            self.assertEqual(self.pure(residue_polynomial, t, 2, h), pol(1, *wanted))
+            self.assertIsNone(self.pure(constant_residues, t, 2, h))
+            self.assertIsNone(self.pure(logarithms, t, 2, h))
+
     def test_its_degree_and_the_residues_by_their_rule(self):
         # At a rational pole b the residue is a(b) over the value of the derivative of d.
         chance = random.Random(3)

@@ -432,6 +432,29 @@ class Divisors(PureCase):
             p, r = [chance_over_z(chance, Q, 3, 2) for _ in "pr"]
             self.check(Q, p, r, chance.sample(self.factors(0), 2))
 
+    def test_polynomials_with_many_zeros_among_their_coefficients(self):
+        # Degrees fall by more than one on the way.
+        for n, most, rounds in ((0, 6, 250), (1, 4, 60)):
+            chance = random.Random(31 + n)
+            field = LEVELS[n]
+            for _ in range(rounds):
+                base = self.sparse(chance, field, 2) or ((field.one(),),)
+                p, r = [self.sparse(chance, field, chance.randint(0, most)) for _ in "pr"]
+                p, r = [self.product(field, [base, row]) if row else () for row in (p, r)]
+                self.check(field, p, r, chance.sample(self.factors(n), chance.randint(1, 2)))
+                ring = ring_of_polynomials(field)
+                if len(p) + len(r) < 9:
+                    self.assertEqual(zresultant(field, p, r), by_rule(ring, p, r))
+
+    def sparse(self, chance, field, most):
+        rows = []
+        for _ in range(most + 1):
+            row = chance_polynomial(chance, LEVELS[0], chance.randint(0, 2))
+            rows.append(tuple(field.rational(c) for c in row) if chance.random() < 0.4 else ())
+        while rows and not rows[-1]:
+            rows.pop()
+        return tuple(rows)
+
     def test_zero_beside_another_polynomial(self):
         for n in (0, 1):
             field = LEVELS[n]
