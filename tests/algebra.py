@@ -6,6 +6,7 @@ from fractions import Fraction
 from integraph.field import RationalFunctions, Rationals
 from integraph.polynomial import pmul
 from integraph.tower import Tower
+from integraph.vectors import combination
 
 LEVELS = [Rationals()]
 for _ in range(5):
@@ -106,6 +107,44 @@ def unlike_levels(towers=TOWERS):
         for n in range(1, t.height() + 1):
             found.setdefault(t.monomials()[:n], (t, n))
     return list(found.values())
+
+
+def fit(t, n, w):
+    """Returns w without its constant and logarithmic parts, or None if this is not fit."""
+    field = t.field(n)
+    for k in range(2, n + 1):
+        if t.kind(k) == "log":
+            part = field.rational(t.log_part(n, w, k))
+            w = field.subtract(w, field.multiply(part, lift(t.variable(k), k, n)))
+    w = field.subtract(w, field.rational(t.constant_part(n, w)))
+    arguments = tuple(lift(t.argument(k), k - 1, n) for k in range(2, n + 1)
+                      if t.kind(k) == "exp")
+    kind, found = combination(n, arguments, w)
+    if kind == "sum" and all(d == 1 for _, d in found):
+        return None
+    return w
+
+
+def chance_fit(chance, t, n):
+    """Returns an element that is fit for the equation of chapter 12."""
+    while True:
+        w = small_element(chance, n)
+        if n > 1 and chance.random() < 0.4:
+            w = lift(small_element(chance, n - 1), n - 1, n)
+        for k in range(2, n + 1):
+            # Such sums are where powers cancel.
+            if t.kind(k) == "exp" and chance.random() < 0.3:
+                moved = t.field(n).rational((chance.randint(-3, 3), 1))
+                moved = t.field(n).multiply(lift(t.argument(k), k - 1, n), moved)
+                w = t.field(n).add(w, moved)
+        w = fit(t, n, w)
+        if w is not None:
+            return w
+
+
+def multiplied(field, e, c):
+    """Returns the element e times the rational c."""
+    return field.multiply(e, field.rational(c))
 
 
 def with_roots(*roots):

@@ -29,6 +29,28 @@ def picture(value):
     return (type(value), value)
 
 
+def spoiled(value):
+    """Returns values like this one, in each of which one part has a form that it cannot have."""
+    if isinstance(value, tuple):
+        found = [list(value), value + (None,), None, "word", 7]
+        for at, item in enumerate(value):
+            found += [value[:at] + (other,) + value[at + 1:] for other in spoiled(item)]
+        return found
+    if isinstance(value, str):
+        return ["word", "", None, True, (value,)]
+    if value in (0, 1):
+        return [bool(value), None, str(value)]
+    return [None, str(value), (value,)]
+
+
+def some_spoiled(chance, value, count):
+    """Returns at most so many of the spoiled values: those of the value itself, and others."""
+    found = spoiled(value)
+    if len(found) <= count:
+        return found
+    return found[:5] + chance.sample(found[5:], count - 5)
+
+
 class PureCase(unittest.TestCase):
     """Calls functions twice and looks after their arguments."""
 

@@ -13,7 +13,7 @@ PACKAGE = os.path.dirname(integraph.__file__)
 # The parts in their order: each uses only parts before it.
 ORDER = ("errors", "rational", "linear", "wholes", "clearing", "polynomial", "divisor", "field",
          "words", "expressions", "printing", "roots", "resultant", "tower", "vectors", "build",
-         "answers", "hermite", "residues", "poles")
+         "answers", "hermite", "residues", "poles", "equation", "limited", "integral", "forms")
 
 FUNCTIONS = {
     "rational": (
@@ -64,6 +64,14 @@ FUNCTIONS = {
         "logarithms(tower, n, h)", "by_powers_of_z(field, g)"),
     "poles": (
         "clear(tower, n, w, g)", "coprime_parts(n, polynomials)", "order_at(n, p, e)"),
+    "equation": (
+        "cancelling(tower, n, e)", "bounds(tower, n, w, g)", "equation(tower, n, w, g)",
+        "refutes(tower, n, w, g, data)", "applied(tower, n, w, y)"),
+    "limited": ("head(tower, n, u)", "log_quotient(tower, n, u)", "limited(tower, n, g, us)"),
+    "integral": ("integrate(tower, n, f)", "holds(tower, n, f, answer)"),
+    "forms": (
+        "is_index_tuple(value, count)", "is_element_tuple(tower, n, value)",
+        "has_shape(value, word, count)"),
 }
 
 CLASSES = {"errors": ("Fault", "ZeroDivisor", "Malformed", "Refused", "TooLarge", "NoText"),

@@ -141,7 +141,8 @@ class Language(unittest.TestCase):
                 if isinstance(node, ast.Compare):
                     self.check_compare(node)
                 if isinstance(node, ast.ExceptHandler):
-                    self.assertNotIn(getattr(node.type, "id", None), (None, "Exception"))
+                    for name in getattr(node.type, "elts", [node.type]):
+                        self.assertNotIn(getattr(name, "id", None), (None, "Exception"))
                 if isinstance(node, ast.Raise) and node.exc is not None:
                     self.assertIsInstance(node.exc, ast.Call)
                     self.assertIsInstance(node.exc.func, ast.Name)
