@@ -6,8 +6,8 @@ from integraph.rational import parse_digits
 WORDS = ("x", "exp", "log")
 
 _SIGNS = "+-*/^()"
-_LETTERS = "abcdefghijklmnopqrstuvwxyz"
-_DIGITS = "0123456789"
+LETTERS = "abcdefghijklmnopqrstuvwxyz"
+DIGITS = "0123456789"
 _MOST_DIGITS = 100
 
 
@@ -30,10 +30,10 @@ def _token(text, at):
     """Returns the kind and the value of the token that begins here, and where it ends."""
     if text[at] in _SIGNS:
         return "sign", text[at], at + 1
-    end = _end_of_run(text, at, _DIGITS)
+    end = _end_of_run(text, at, DIGITS)
     if end > at:
         return "number", _number(text, at, end), end
-    end = _end_of_run(text, at, _LETTERS)
+    end = _end_of_run(text, at, LETTERS)
     if text[at:end] not in WORDS:
         raise NoText(at)
     return "word", text[at:end], end

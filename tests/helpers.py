@@ -37,7 +37,7 @@ def spoiled(value):
             found += [value[:at] + (other,) + value[at + 1:] for other in spoiled(item)]
         return found
     if isinstance(value, str):
-        return ["word", "", None, True, (value,)]
+        return [word for word in ("word", "") if word != value] + [None, True, (value,)]
     if value in (0, 1):
         return [bool(value), None, str(value)]
     return [None, str(value), (value,)]

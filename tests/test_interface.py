@@ -13,7 +13,8 @@ PACKAGE = os.path.dirname(integraph.__file__)
 # The parts in their order: each uses only parts before it.
 ORDER = ("errors", "rational", "linear", "wholes", "clearing", "polynomial", "divisor", "field",
          "words", "expressions", "printing", "roots", "resultant", "tower", "vectors", "build",
-         "answers", "hermite", "residues", "poles", "equation", "limited", "integral", "forms")
+         "answers", "hermite", "residues", "poles", "equation", "limited", "integral", "forms",
+         "checker", "sheet", "replies", "log", "console")
 
 FUNCTIONS = {
     "rational": (
@@ -72,10 +73,19 @@ FUNCTIONS = {
     "forms": (
         "is_index_tuple(value, count)", "is_element_tuple(tower, n, value)",
         "has_shape(value, word, count)"),
+    "checker": ("accepts(tower, n, f, data)", "accepts_limited(tower, n, g, us, data)"),
+    "sheet": (
+        "is_name(value)", "full_text(names, text)", "read_line(names, line)",
+        "answer_text(tower, answer)"),
+    "replies": ("plain_reply(names, line)", "is_right(names, entry)"),
+    "log": (
+        "write_data(value)", "read_data(text)", "write_log(entries)", "read_log(text)",
+        "first_wrong(entries)"),
+    "console": ("reply_to(names, line)",),
 }
 
 CLASSES = {"errors": ("Fault", "ZeroDivisor", "Malformed", "Refused", "TooLarge", "NoText"),
-           "field": ("Rationals", "RationalFunctions"), "tower": ("Tower",)}
+           "field": ("Rationals", "RationalFunctions"), "tower": ("Tower",), "console": ("Console",)}
 
 FIELD = ("level(self)", "zero(self)", "one(self)", "is_zero(self, a)", "add(self, a, b)",
          "subtract(self, a, b)", "negative(self, a)", "multiply(self, a, b)", "inverse(self, a)",
@@ -94,6 +104,7 @@ METHODS = {
         "is_special(self, n, p)", "special_split(self, n, p)", "parts(self, n, e)",
         "terms(self, n, r)", "from_terms(self, n, terms)", "constant_part(self, n, e)",
         "log_part(self, n, e, l)", "is_normal_tower(self)"),
+    ("console", "Console"): ("__init__()", "enter(self, line)", "entries(self)", "names(self)"),
 }
 
 
