@@ -2,9 +2,9 @@
 
 from integraph.build import grounds
 from integraph.divisor import psolve, separate, squarefree
-from integraph.hermite import is_reduced
+from integraph.hermite import cofactors_at_pole, is_reduced
 from integraph.poles import clear
-from integraph.polynomial import degree, pmul, ppow, pquotient, pscale
+from integraph.polynomial import degree, pmul, ppow
 from integraph.rational import rwhole
 from integraph.vectors import combination
 
@@ -166,12 +166,9 @@ class Solver:
     def step_at_pole(self, factor):
         """Returns an element, the poles of which take off the highest ones of f at the factor."""
         v, k = factor
-        base = self.tower.field(self.n - 1)
-        num, den = self.f
-        u = pquotient(base, den, ppow(base, v, k))
-        slope = pmul(base, u, self.tower.derive_polynomial(self.n, v))
-        b, _ = psolve(base, slope, v, pscale(base, num, base.rational((-1, k - 1))))
-        return self.tower.field(self.n).fraction(b, ppow(base, v, k - 1))
+        _, b, _ = cofactors_at_pole(self.tower, self.n, self.f, factor)
+        field = self.tower.field(self.n)
+        return field.fraction(b, ppow(field.base, v, k - 1))
 
     def take_the_rest(self):
         """Takes off what is left when f has poles only where w has some, and special ones."""

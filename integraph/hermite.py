@@ -21,15 +21,23 @@ def _lowered_pole(tower, n, f, factor):
     """Returns (g, h) with f = D g + h, where the poles at the factor have a lower order in h."""
     v, k = factor
     base = tower.field(n - 1)
-    num, den = f
-    u = pquotient(base, den, ppow(base, v, k))
-    slope = pmul(base, u, tower.derive_polynomial(n, v))
-    b, c = psolve(base, slope, v, pscale(base, num, base.rational((-1, k - 1))))
+    u, b, c = cofactors_at_pole(tower, n, f, factor)
     power = ppow(base, v, k - 1)
     rest = pmul(base, u, tower.derive_polynomial(n, b))
     rest = pneg(base, padd(base, rest, pscale(base, c, base.rational((k - 1, 1)))))
     field = tower.field(n)
     return field.fraction(b, power), field.fraction(rest, pmul(base, u, power))
+
+
+def cofactors_at_pole(tower, n, f, factor):
+    """Returns (u, b, c) for f = p / (u v^k), k from 2: b u D v + c v is -p / (k - 1)."""
+    v, k = factor
+    base = tower.field(n - 1)
+    num, den = f
+    u = pquotient(base, den, ppow(base, v, k))
+    slope = pmul(base, u, tower.derive_polynomial(n, v))
+    b, c = psolve(base, slope, v, pscale(base, num, base.rational((-1, k - 1))))
+    return u, b, c
 
 
 def is_reduction(tower, n, f, g, h, r):

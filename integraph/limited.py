@@ -1,7 +1,6 @@
 """Limited integrals: D y plus rational multiples of given logarithmic derivatives."""
 
 from integraph.equation import equation
-from integraph.errors import ZeroDivisor
 from integraph.hermite import hermite
 from integraph.linear import primitive
 from integraph.polynomial import degree, last
@@ -18,8 +17,6 @@ def head(tower, n, u):
 def log_quotient(tower, n, u):
     """Returns u' / u."""
     num, den = u
-    if len(num) == 0:
-        raise ZeroDivisor("the logarithmic derivative of zero")
     field = tower.field(n)
     # num'/num - den'/den has smaller divisors on the way than u' and its quotient by u.
     top = field.fraction(tower.derive_polynomial(n, num), num)

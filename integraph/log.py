@@ -51,7 +51,7 @@ def read_data(text):
     # The items so far of each tuple that is open; the first list is for the whole text.
     rows = [[]]
     at = 0
-    while len(rows) > 1 or len(rows[0]) == 0:
+    while len(rows[0]) == 0:
         at = _read_piece(text, at, rows)
     if at < len(text):
         raise NoText(at)

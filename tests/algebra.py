@@ -3,8 +3,9 @@
 import re
 from fractions import Fraction
 
+from integraph.answers import add_answers, is_answer, plain, rational_log
 from integraph.field import RationalFunctions, Rationals
-from integraph.polynomial import pmul
+from integraph.polynomial import pmul, trim
 from integraph.tower import Tower
 from integraph.vectors import combination
 
@@ -92,11 +93,15 @@ def tower(*texts):
 X = tower()
 LOG = tower("log x")
 EXP = tower("exp x")
+LOG_EXP = tower("log x", "exp x")
+EXP_LOG = tower("exp x", "log t2+1")
+EXP_EXP = tower("exp x", "exp t2")
+LOG_LOG = tower("log x+1", "log t2")
+HIGH = tower("log x", "exp x", "exp t3/x")
 # Towers as build returns them, of all heights, with both kinds at each level.
 TOWERS = (
-    X, LOG, EXP, tower("log x+1", "log t2"), tower("exp x", "exp t2"),
-    tower("log x", "exp x"), tower("exp x", "log t2+1"), tower("log x", "exp x*t2"),
-    tower("exp x^2", "log x", "log t3+x"), tower("log x", "exp x", "exp t3/x"),
+    X, LOG, EXP, LOG_LOG, EXP_EXP, LOG_EXP, EXP_LOG, tower("log x", "exp x*t2"),
+    tower("exp x^2", "log x", "log t3+x"), HIGH,
     tower("log x", "log t2", "exp x*t2"))
 
 
@@ -202,3 +207,27 @@ def small_element(chance, n):
     bottoms = ["1", "1", last, f"({last}+1)", f"({last}+x)" if n > 1 else "(x^2+1)", "x"]
     text = f"({top[0]}+({top[1]}))/{chance.choice(bottoms)}"
     return el(n, text)
+
+
+def chance_answer(chance, t, n):
+    """Returns an answer with logarithms over rational roots and over others."""
+    field = t.field(n)
+    answer = plain(t, n, small_element(chance, n))
+    for _ in range(chance.randint(0, 2)):
+        s = small_element(chance, n)
+        kind = chance.randint(0, 3)
+        if field.is_zero(s):
+            continue
+        if kind < 2:
+            c = rat(chance.choice(("-3", "-1", "1", "2", "1/2")))
+            more = rational_log(t, n, c, s)
+        elif kind == 2:
+            more = (field.zero(), ((with_roots(1, "-1/2"), trim(field, (s, field.one()))),))
+        else:
+            r = q(chance.choice((-2, 1, -3)), 0, 1)
+            # Above x such logarithms have large derivatives.
+            top = small_element(chance, n) if n == 1 else field.one()
+            more = (field.zero(), ((r, trim(field, (s, top))),))
+        if is_answer(t, n, more):
+            answer = add_answers(t, n, answer, more)
+    return answer

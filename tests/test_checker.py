@@ -6,22 +6,18 @@ import unittest
 from integraph.answers import derivative
 from integraph.checker import accepts, accepts_limited
 from integraph.divisor import psolve
+from integraph.equation import refutes
 from integraph.hermite import hermite
 from integraph.integral import integrate
 from integraph.limited import limited
 from integraph.polynomial import padd, pformal, pmul, pneg
 from integraph.residues import logarithms
-from integraph.vectors import combination
+from integraph.vectors import combination, is_apart
 from tests.algebra import (
-    EXP, LOG, TOWERS, X, el, lift, pol, q, small_element, tower, unlike_levels)
+    EXP, EXP_EXP, EXP_LOG, HIGH, LOG, LOG_EXP, LOG_LOG, TOWERS, X, chance_answer, el, lift, pol, q,
+    small_element, tower, unlike_levels)
 from tests.helpers import ODD_VALUES, PureCase, nested, some_spoiled
-from tests.test_integral import chance_answer
 
-LOG_EXP = tower("log x", "exp x")
-EXP_LOG = tower("exp x", "log t2+1")
-EXP_EXP = tower("exp x", "exp t2")
-LOG_LOG = tower("log x+1", "log t2")
-HIGH = tower("log x", "exp x", "exp t3/x")
 
 # A tower, a level and an element without an integral.
 INTEGRALS = (
@@ -96,6 +92,11 @@ class Examples(CheckerCase):
             for n in range(1, t.height() + 1):
                 for text in ("1", "0", "x"):
                     self.assert_false(accepts(t, n, el(n, text), ("constant",)))
+        zero, one = (0, 1), (1, 1)
+        for value in (("residue", (zero, zero, one), ((one,), ()), ((one,), ())),
+                      ("part", (zero, ()), one, ("ground", zero, one, ("constant",))),
+                      ("part", (zero, ()), one, ("power", 1, one, ("simple", zero)))):
+            self.assert_false(accepts(X, 0, one, value))
         for value in (["constant"], ("constant", 1), ("constants",), "constant", ((),), ()):
             self.assert_false(accepts(X, 0, (1, 1), value))
 
@@ -340,11 +341,38 @@ class Parts(CheckerCase):
         for more in ("9", "x^2", "t2", "x*t2"):
             other = LOG.field(2).add(step, el(2, more))
             self.assert_true(accepts(LOG, 2, f, changed(data, (3, 1), other)))
+        # The degree 0 decides nothing: 1/(x + 1) has an integral.
+        f, zero = el(2, "1/(x+1)"), el(2, "0")
+        _, inner = limited(LOG, 1, el(1, "1/(x+1)"), (el(1, "x"),))
+        self.assert_true(accepts_limited(LOG, 1, el(1, "1/(x+1)"), (el(1, "x"),), inner))
+        stop = ("lead", zero, 0, el(1, "1/(x+1)"), inner)
+        self.assert_false(accepts(LOG, 2, f, ("part", (zero, ()), f, stop)))
         # A degree 1 is an integer, True is none.
         f = el(2, "t2/(x+1)")
         _, data = integrate(LOG, 2, f)
         self.assertEqual(data[3][2], 1)
         self.assert_false(accepts(LOG, 2, f, changed(data, (3, 2), True)))
+
+    def test_no_lead_over_an_exponential(self):
+        # The coefficient has no integral, but the power of the exponential has one.
+        e = el(1, "1/(x+1)-1/(x+1)^2")
+        f = el(2, "t2*(1/(x+1)-1/(x+1)^2)")
+        self.assertEqual(integrate(EXP, 2, f), ("found", (el(2, "t2/(x+1)"), ())))
+        _, inner = limited(EXP, 1, e, (el(1, "x"),))
+        zero = el(2, "0")
+        stop = ("lead", zero, 1, e, inner)
+        self.assert_true(accepts_limited(EXP, 1, e, (el(1, "x"),), inner))
+        self.assert_false(accepts(EXP, 2, f, ("part", (zero, ()), f, stop)))
+
+    def test_no_power_over_a_logarithm(self):
+        # D b + (2 x + 1) b = 1 has no solution, but that says nothing of a logarithm's power.
+        t = tower("log x^2+x")
+        f, zero = el(2, "t2"), el(2, "0")
+        self.assertEqual(integrate(t, 2, f)[0], "found")
+        inner = ("range", el(1, "0"))
+        self.assert_true(refutes(t, 1, t.argument(2), el(1, "1"), inner))
+        stop = ("power", 1, el(1, "1"), inner)
+        self.assert_false(accepts(t, 2, f, ("part", (zero, ()), f, stop)))
 
     def test_ground(self):
         f = el(3, "1/t2+t3*x")
@@ -437,7 +465,7 @@ class LimitedParts(CheckerCase):
                 (3, (0, 1, 2, 3)), (3, (False, 3)), (3, [0, 3]), (3, (0, 0)), (3, (0, 2)),
                 (4, duals[::-1]), (4, duals[:1]), (4, duals + duals[:1]), (4, ((), ())),
                 (4, (flat, duals[1])), (4, list(duals)), (4, ()),
-                (5, relations[::-1]), (5, relations[:1]), (5, ()), (5, relations * 2),
+                (5, list(relations)), (5, None), (5, relations[::-1]), (5, relations[:1]), (5, ()), (5, relations * 2),
                 (5, (((0, 1), (0, 1)), ((1, 1), (0, 1)))), (5, (((0, 1),), ((2, 1),))),
                 (5, (((0, 1), (0, 1)), ((4, 2), (0, 1)))), (5, (((1, 1), (0, 1)), ((2, 1), (0, 1)))),
                 (5, (((0, 1), (0, 1)), [(2, 1), (0, 1)])), (5, (((0, 1), (0, 1)), (2, 0))),
@@ -447,6 +475,32 @@ class LimitedParts(CheckerCase):
             with self.subTest(at=at, new=new):
                 self.assert_false(self.pure(accepts_limited, EXP, 2, g, us,
                                             changed(data, (at,), new)))
+
+    def test_duals_show_that_the_base_is_independent(self):
+        us, g, data = self.below()
+        # One point shows that a simple part is not zero, but no more.
+        single = ((((1, 1), (1, 1)), (1, 1)),)
+        for at in (0, 1):
+            self.assert_true(is_apart(2, (), data[2][data[3][at]][0], single))
+            self.assert_false(accepts_limited(EXP, 2, g, us, changed(data, (4, at), single)))
+
+    def test_a_relation_too_many(self):
+        # It would stand in the place of the multiples.
+        u = el(2, "(x+1)*(t2+1)")
+        g = EXP.field(2).divide(EXP.derive(2, u), u)
+        self.assertEqual(limited(EXP, 2, g, (u,)), ("found", el(2, "0"), ((1, 1),)))
+        rest = el(2, "1+1/(x+1)")
+        _, inner = limited(EXP, 1, el(1, "1+1/(x+1)"), ())
+        reduction = hermite(EXP, 2, g)
+        simple = ((reduction[1], rest),)
+        _, rows = combination(2, (), reduction[1])
+        stop = ("ground", el(2, "0"), el(1, "1+1/(x+1)"), inner)
+        for relations, r in (((((1, 1),),), ((0, 1),)), ((), ((0, 1),)), ((), ((1, 1),))):
+            data = ("below", reduction, simple, (0,), (rows,), relations, r, stop)
+            self.assert_false(accepts_limited(EXP, 2, g, (u,), data))
+        # The same multiples are right for an element without a limited integral.
+        data = ("below", hermite(EXP, 2, rest), simple, (0,), (rows,), (), ((0, 1),), stop)
+        self.assert_true(accepts_limited(EXP, 2, rest, (u,), data))
 
     def test_another_base_that_is_one(self):
         # Indexes 2 and 3 are a base, too; relations, multiples and heads follow it.
@@ -502,6 +556,11 @@ class LimitedParts(CheckerCase):
             data = ("below", (zero, zero, g), (), (), (), (), (), stop)
             self.assert_false(self.pure(accepts_limited, X, 1, g, (), data))
             data = ("below", (zero, zero, el(1, "1")), (), (), (), (), (), stop)
+            self.assert_false(self.pure(accepts_limited, X, 1, el(1, "1"), (), data))
+        numbers = ((0, 1), (0, 1), (1, 1))
+        for inner in (("apart", numbers, (), ()), ("below", numbers, (), (), (), (), (), ())):
+            data = ("below", (zero, zero, el(1, "1")), (), (), (), (), (),
+                    ("ground", zero, (1, 1), inner))
             self.assert_false(self.pure(accepts_limited, X, 1, el(1, "1"), (), data))
 
     def test_words_of_other_certificates(self):

@@ -6,13 +6,9 @@ import unittest
 from integraph.equation import applied, bounds, cancelling, equation, refutes
 from integraph.poles import clear
 from tests.algebra import (
-    EXP, LOG, TOWERS, X, chance_fit, el, fit, lift, normal_polynomials, small_element, tower,
-    unlike_levels)
+    EXP, EXP_EXP, EXP_LOG, LOG, LOG_EXP, TOWERS, X, chance_fit, el, fit, lift,
+    normal_polynomials, small_element, tower, unlike_levels)
 from tests.helpers import ODD_VALUES, PureCase, nested, some_spoiled
-
-LOG_EXP = tower("log x", "exp x")
-EXP_EXP = tower("exp x", "exp t2")
-EXP_LOG = tower("exp x", "log t2+1")
 
 
 def words(data):

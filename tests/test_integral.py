@@ -3,50 +3,20 @@
 import random
 import unittest
 
-from integraph.answers import add_answers, derivative, is_answer, plain, raise_answer, rational_log
+from integraph.answers import derivative, is_answer, raise_answer, rational_log
 from integraph.build import build, is_tower
 from integraph.divisor import psolve
 from integraph.equation import refutes
 from integraph.hermite import is_reduced, is_reduction
 from integraph.integral import holds, integrate
 from integraph.limited import limited
-from integraph.polynomial import padd, pformal, pmul, trim
+from integraph.polynomial import padd, pformal, pmul
 from integraph.printing import parse
 from integraph.residues import logarithms
 from tests.algebra import (
-    EXP, LOG, TOWERS, X, el, lift, multiplied, pol, q, rat, small_element, tower, unlike_levels,
-    with_roots)
+    EXP, EXP_EXP, EXP_LOG, HIGH, LOG, LOG_EXP, LOG_LOG, TOWERS, X, chance_answer, el, lift,
+    multiplied, pol, q, rat, small_element, tower, unlike_levels)
 from tests.helpers import ODD_VALUES, PureCase, nested
-
-LOG_EXP = tower("log x", "exp x")
-EXP_LOG = tower("exp x", "log t2+1")
-EXP_EXP = tower("exp x", "exp t2")
-LOG_LOG = tower("log x+1", "log t2")
-HIGH = tower("log x", "exp x", "exp t3/x")
-
-
-def chance_answer(chance, t, n):
-    """Returns an answer with logarithms over rational roots and over others."""
-    field = t.field(n)
-    answer = plain(t, n, small_element(chance, n))
-    for _ in range(chance.randint(0, 2)):
-        s = small_element(chance, n)
-        kind = chance.randint(0, 3)
-        if field.is_zero(s):
-            continue
-        if kind < 2:
-            c = rat(chance.choice(("-3", "-1", "1", "2", "1/2")))
-            more = rational_log(t, n, c, s)
-        elif kind == 2:
-            more = (field.zero(), ((with_roots(1, "-1/2"), trim(field, (s, field.one()))),))
-        else:
-            r = q(chance.choice((-2, 1, -3)), 0, 1)
-            # Above x such logarithms have large derivatives.
-            top = small_element(chance, n) if n == 1 else field.one()
-            more = (field.zero(), ((r, trim(field, (s, top))),))
-        if is_answer(t, n, more):
-            answer = add_answers(t, n, answer, more)
-    return answer
 
 
 class IntegralCase(PureCase):

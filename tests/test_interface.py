@@ -152,6 +152,24 @@ class Parts(unittest.TestCase):
                 if isinstance(node, ast.ImportFrom) and node.module.startswith("integraph"):
                     self.assertIn(node.module.partition(".")[2], ORDER[:at])
 
+    def test_checking_searches_for_nothing(self):
+        searches = {"integrate", "limited", "equation", "lowered_powers", "logarithms", "Solver"}
+        for part in ("forms", "checker", "sheet", "replies", "log"):
+            for node in ast.walk(tree(part)):
+                if isinstance(node, ast.ImportFrom):
+                    self.assertEqual({name.name for name in node.names} & searches, set(), part)
+        # What the checker takes from there calls none of them either.
+        for part, names in (("equation", ("refutes", "_digit_refutes", "_refutes_below", "_digit")),
+                            ("limited", ("log_quotient", "head", "product_of_heads",
+                                         "relation_vectors", "less_multiples",
+                                         "multiple_of_argument", "lower_arguments"))):
+            functions = {node.name: node for node in tree(part).body
+                         if isinstance(node, ast.FunctionDef)}
+            for name in names:
+                called = {node.id for node in ast.walk(functions[name])
+                          if isinstance(node, ast.Name)}
+                self.assertEqual(called & searches, set(), name)
+
     def test_every_part_is_in_the_order(self):
         found = sorted(name[:-3] for name in os.listdir(PACKAGE) if name.endswith(".py"))
         self.assertEqual(found, sorted(ORDER + ("__init__",)))

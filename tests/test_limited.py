@@ -11,14 +11,9 @@ from integraph.linear import primitive
 from integraph.rational import is_rational
 from integraph.vectors import combination, is_apart
 from tests.algebra import (
-    EXP, LOG, X, chance_rational, el, lift, multiplied, rat, small_element, tower, unlike_levels)
+    EXP, EXP_EXP, EXP_LOG, HIGH, LOG, LOG_EXP, LOG_LOG, X, chance_rational, el, lift, multiplied,
+    rat, small_element, tower, unlike_levels)
 from tests.helpers import PureCase
-
-LOG_EXP = tower("log x", "exp x")
-EXP_LOG = tower("exp x", "log t2+1")
-EXP_EXP = tower("exp x", "exp t2")
-LOG_LOG = tower("log x+1", "log t2")
-HIGH = tower("log x", "exp x", "exp t3/x")
 
 
 class LimitedCase(PureCase):

@@ -124,6 +124,10 @@ class Lines(PureCase):
         self.no_text("integrate-x")
         self.no_text("equal(x);x")
         self.no_text("leta=x")
+        for line in ("derivex", "derive1", "integratex", "integrate(", "letx", "equalx", "derives",
+                     "lets", "equals;", "derive#"):
+            self.no_text(line)
+            self.no_text("  " + line + "  ")
 
     def test_definitions(self):
         self.reads("let f = f + f", "let", "f", "(x + 1) + (x + 1)")
